@@ -1,0 +1,1 @@
+"""Boxheap: boxes, all alike, heaped in the corner of a room."""
