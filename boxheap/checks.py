@@ -1,4 +1,4 @@
-"""What a room, a table of a room and a place on its ground are."""
+"""What a room, its tables, its lanes and a place on its ground are."""
 
 from boxheap.errors import NoRoom, NoTable
 
@@ -50,6 +50,22 @@ def is_place(room, place):
         return False
     # A number below nought would count from the end of a list, so it is kept out.
     return all([is_whole(number) and 0 <= number < many for number, many in zip(place, room)])
+
+
+def is_lane(lane, rights, downs):
+    """Tell whether this is a text of so many steps to the right and so many down."""
+    if not isinstance(lane, str) or len(lane) != rights + downs:
+        return False
+    # In a narrow or low room fewer than no steps may be asked for: no text has so many.
+    return lane.count("r") == rights and lane.count("d") == downs
+
+
+def are_lanes(room, ends, lanes):
+    """Tell whether this is a list of lanes, one for each row, that lead to these ends."""
+    rows, columns, height = room
+    if not isinstance(lanes, list) or len(lanes) != rows:
+        return False
+    return all([is_lane(lanes[k], columns + k - ends[k], height - k + ends[k]) for k in range(rows)])
 
 
 def check_room(room):

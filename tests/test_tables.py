@@ -5,13 +5,7 @@ import unittest
 from boxheap import tables
 from boxheap.errors import NoPlace
 from boxheap.tables import after, boxes, climb, put, puts, take, takes
-from tests.reference import SMALL_ROOMS, WIDEST, all_tables, filled, fitting_places, wide_tables, with_more
-
-
-def cases():
-    """List rooms and tables: all tables of the small rooms, some of the greatest."""
-    found = [(room, table) for room in SMALL_ROOMS for table in all_tables(room)]
-    return found + [(WIDEST, table) for table in wide_tables()]
+from tests.reference import SMALL_ROOMS, WIDEST, all_cases, all_tables, filled, fitting_places, with_more
 
 
 def places_around(room):
@@ -30,7 +24,7 @@ class BoxesTest(unittest.TestCase):
         self.assertEqual(boxes(WIDEST, filled(WIDEST, 20)), 2400)
 
     def test_all_cases(self):
-        for room, table in cases():
+        for room, table in all_cases():
             self.assertEqual(boxes(room, table), sum(map(sum, table)))
 
 
@@ -60,13 +54,13 @@ class ChangesTest(unittest.TestCase):
         self.assertEqual(takes(WIDEST, filled(WIDEST, 1)), [(5, 19)])
 
     def test_places_of_all_cases(self):
-        for room, table in cases():
+        for room, table in all_cases():
             with self.subTest(room=room, table=table):
                 self.assertEqual(puts(room, table), fitting_places(room, table, 1))
                 self.assertEqual(takes(room, table), fitting_places(room, table, -1))
 
     def test_put_and_take_on_every_place_and_around_the_ground(self):
-        for room, table in cases():
+        for room, table in all_cases():
             self.check_changes(room, table, put, 1)
             self.check_changes(room, table, take, -1)
 
@@ -87,7 +81,7 @@ class ChangesTest(unittest.TestCase):
                 put(room, table, place)
 
     def test_take_undoes_put(self):
-        for room, table in cases():
+        for room, table in all_cases():
             for place in puts(room, table):
                 self.assertEqual(take(room, put(room, table, place), place), table)
 
@@ -110,7 +104,7 @@ class ClimbTest(unittest.TestCase):
         self.assertEqual(climb(WIDEST, filled(WIDEST, 20)), level * 20)
 
     def test_levels_rows_and_columns_in_their_order(self):
-        for room, table in cases():
+        for room, table in all_cases():
             told = []
             left = [list(row) for row in table]
             while any(map(any, left)):
@@ -120,7 +114,7 @@ class ClimbTest(unittest.TestCase):
             self.assertEqual(climb(room, table), told)
 
     def test_put_one_by_one_the_places_give_the_table(self):
-        for room, table in cases():
+        for room, table in all_cases():
             heap = filled(room, 0)
             for place in climb(room, table):
                 heap = put(room, heap, place)
